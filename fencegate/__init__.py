@@ -1,0 +1,1 @@
+"""Fencegate: locks with rising numbers, holders that sleep too long, and gates that notice."""
