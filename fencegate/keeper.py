@@ -23,12 +23,14 @@ class Keeper:
         """Tell the live notes by number, the least first."""
         return [note for note in self.kept if tick < note[4]]
 
+    def names_in_way(self, holder, lock, shared, tick):
+        """Tell the other holders with live notes in the asking's way, each once, by name."""
+        others = [note for note in self.live(tick) if note[1] != holder]
+        return sorted(set([note[1] for note in others if in_way(lock, shared, note[2], note[3])]))
+
     def says_free(self, holder, lock, shared, tick):
         """Tell whether no live note of another holder is in the asking's way."""
-        for number, other, other_lock, other_shared, end in self.live(tick):
-            if other != holder and in_way(lock, shared, other_lock, other_shared):
-                return False
-        return True
+        return self.names_in_way(holder, lock, shared, tick) == []
 
     def take(self, number, holder, lock, shared, tick, time):
         """Take a note, in the place of the same holder's older one for the same lock."""

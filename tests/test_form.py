@@ -25,6 +25,9 @@ append clear copy count endswith extend find get index insert isalnum isalpha is
 keys ljust lower lstrip partition pop remove replace reverse rfind rjust rpartition rsplit rstrip setdefault split
 splitlines startswith strip update upper values zfill bit_length
 """.split()
+MAKERS = ["zip", "enumerate", "reversed", "range"]
+VIEWS = ["items", "keys", "values"]
+WALKERS = ["list", "tuple", "dict", "sorted", "sum", "any", "all", "enumerate", "zip", "min", "max"]
 OWN_DOUBLE = ["__init__", "__eq__", "__repr__", "__str__", "__len__"]
 UNUSED_NAMES = """
 register mro elements open input version_info with_traceback add_note attrgetter breakpoint builtins compile copyright
@@ -116,6 +119,44 @@ def class_faults(node):
     return faults
 
 
+def call_name(node):
+    """The plain name that a node calls; the empty text if it is no such call."""
+    return node.func.id if isinstance(node, ast.Call) and isinstance(node.func, ast.Name) else ""
+
+
+def walked_at_once(node, parent):
+    """Whether a call that makes something to be walked stands where it is walked on the spot."""
+    if isinstance(parent, (ast.For, ast.comprehension)):
+        return parent.iter is node
+    return call_name(parent) in WALKERS and parent.args[0] is node
+
+
+def place_faults(tree):
+    """Faults of calls by where they stand: what is to be walked at once, and sets."""
+    faults = []
+    for parent in ast.walk(tree):
+        for node in ast.iter_child_nodes(parent):
+            walked = isinstance(node, ast.Call) and isinstance(node.func, ast.Attribute) and node.func.attr in VIEWS
+            if (walked or call_name(node) in MAKERS) and not walked_at_once(node, parent):
+                faults.append("L23 walk")
+            is_set = isinstance(node, ast.Set) or call_name(node) in ["set", "frozenset"]
+            if is_set and not isinstance(parent, (ast.Compare, ast.BinOp)):
+                if call_name(parent) not in ["sorted", "len"] or parent.keywords:
+                    faults.append("L24 set")
+    return faults
+
+
+def local_faults(tree):
+    """Faults of parameters and locals that are called like a class or an import of their file."""
+    taken = [node.name for node in tree.body if isinstance(node, ast.ClassDef)]
+    for node in tree.body:
+        if isinstance(node, ast.ImportFrom):
+            taken.extend(part.name for part in node.names)
+    names = [node.arg for node in ast.walk(tree) if isinstance(node, ast.arg)]
+    names += [node.id for node in ast.walk(tree) if isinstance(node, ast.Name) and isinstance(node.ctx, ast.Store)]
+    return ["L15 local " + name for name in names if name in taken]
+
+
 def top_faults(tree):
     """Faults at a file's top: what stands there, and names bound twice."""
     faults = []
@@ -138,7 +179,7 @@ def top_faults(tree):
 def file_faults(text, own_names):
     """All faults of one file; own_names are the methods and values of the whole package."""
     tree = ast.parse(text)
-    faults = text_faults(text) + top_faults(tree)
+    faults = text_faults(text) + top_faults(tree) + place_faults(tree) + local_faults(tree)
     bound = bound_names(tree)
     for name in bound:
         if name.startswith("_") or not name.isascii():
@@ -217,8 +258,13 @@ class ThePackage(unittest.TestCase):
 
 class TheCheckItself(unittest.TestCase):
     def test_code_in_the_form_has_no_faults(self):
-        good = 'def least(numbers):\n    """Why."""\n    return min([n for n in numbers if n > 0], default=0)\n'
-        self.assertEqual(file_faults(good, []), [])
+        for text in [
+            'def least(numbers):\n    """Why."""\n    return min([n for n in numbers if n > 0], default=0)\n',
+            "def f(a):\n    return [b for b, c in enumerate(a, start=1) if c in set(a)]\n",
+            "def f(a):\n    return sorted(set(a)) + list(a.items()) + list(range(3))\n",
+        ]:
+            with self.subTest(text=text[:60]):
+                self.assertEqual(file_faults(text, []), [])
 
     def test_code_outside_the_form_is_seen(self):
         inside = "def f(a):\n    "
@@ -232,7 +278,10 @@ class TheCheckItself(unittest.TestCase):
             inside + "for b in a:\n        pass\n    else:\n        pass\n", "def f(id):\n    return id\n",
             "def hidden(_a):\n    return 1\n", "x = 1\nx = 2\n", "# the type of it\n", "# caf\u00e9\n",
             "class A:\n    b = 1\n", "x = 'a % b'\n", "# " + "x" * 120 + "\n", "x = 1\n" * 401,
-            "def f():\n" + "    f()\n" * 40,
+            "def f():\n" + "    f()\n" * 40, inside + "b = range(a)\n    return len(b)\n",
+            inside + "return a.items()\n", inside + "b = set(a)\n", inside + "for b in set(a):\n        pass\n",
+            inside + "return sorted(set(a), reverse=True)\n", "class A:\n    pass\n\n\ndef f(A):\n    return A\n",
+            "from fencegate.paths import within\n\n\ndef f(a):\n    within = a\n    return within\n",
         ]:
             with self.subTest(text=text[:60]):
                 self.assertNotEqual(file_faults(text, []), [])
