@@ -28,6 +28,9 @@ splitlines startswith strip update upper values zfill bit_length
 MAKERS = ["zip", "enumerate", "reversed", "range"]
 VIEWS = ["items", "keys", "values"]
 WALKERS = ["list", "tuple", "dict", "sorted", "sum", "any", "all", "enumerate", "zip", "min", "max"]
+# Names of Python's own values that a method of the package's own may bear too (L26).
+SHARED_NAMES = METHODS + ["add", "discard"]
+PYTHONS_NAMES = {name for kind in [str, int, list, dict, set, bytes] for name in dir(kind)}
 OWN_DOUBLE = ["__init__", "__eq__", "__repr__", "__str__", "__len__"]
 UNUSED_NAMES = """
 register mro elements open input version_info with_traceback add_note attrgetter breakpoint builtins compile copyright
@@ -101,6 +104,43 @@ def node_faults(node):
         name = node.id if isinstance(node, ast.Name) else node.attr
         if name in UNUSED_NAMES:
             faults.append("L17 name " + name)
+    return faults + part_faults(node)
+
+
+def part_faults(node):
+    """Faults of one node that its parts show: f-strings, `is`, powers, what is caught."""
+    faults = []
+    if isinstance(node, ast.FormattedValue):
+        if not isinstance(node.value, ast.Name) or node.format_spec or node.conversion not in [-1, ord("r")]:
+            faults.append("L7 f-string")
+    if isinstance(node, ast.Compare):
+        for op, right in zip(node.ops, node.comparators):
+            plain = isinstance(right, ast.Constant) and (right.value is None or isinstance(right.value, bool))
+            if isinstance(op, (ast.Is, ast.IsNot)) and not plain:
+                faults.append("L20 is")
+    if isinstance(node, ast.BinOp) and isinstance(node.op, ast.Pow) and not isinstance(node.right, ast.Constant):
+        faults.append("L27 power")
+    if isinstance(node, ast.ExceptHandler):
+        if node.type is None or ast.unparse(node.type) in ["Exception", "TypeError"]:
+            faults.append("L19 except")
+    if isinstance(node, ast.Raise) and not isinstance(node.exc, ast.Call):
+        faults.append("L19 raise")
+    return faults
+
+
+def class_uses(tree):
+    """Faults of classes that are kept or handed on: each stands to be called, as a base, or to be caught."""
+    classes = [node.name for node in tree.body if isinstance(node, ast.ClassDef)]
+    for node in tree.body:
+        if isinstance(node, ast.ImportFrom):
+            classes.extend(part.name for part in node.names if part.name[0].isupper() and not part.name.isupper())
+    faults = []
+    for parent in ast.walk(tree):
+        for node in ast.iter_child_nodes(parent):
+            if isinstance(node, ast.Name) and node.id in classes:
+                called = isinstance(parent, ast.Call) and parent.func is node
+                if not called and not isinstance(parent, (ast.ClassDef, ast.ExceptHandler)):
+                    faults.append("L18 class " + node.id)
     return faults
 
 
@@ -171,15 +211,35 @@ def top_faults(tree):
             names.extend(part.name for part in node.names)
         elif isinstance(node, ast.Assign):
             names.append(ast.unparse(node.targets[0]))
+            inner = [part for part in ast.walk(node.value) if part is not node.value]
+            if any(isinstance(part, (ast.List, ast.Dict, ast.Call, ast.ListComp)) for part in inner):
+                faults.append("L15 value within a value")
     if len(names) != len(set(names)):
         faults.append("L15 name twice")
+    return faults
+
+
+def top_uses(tree):
+    """Uses of a list or dict of a file's top other than an index, a walk, `in` or a copy."""
+    kept = [ast.unparse(node.targets[0]) for node in tree.body
+            if isinstance(node, ast.Assign) and isinstance(node.value, (ast.List, ast.Dict))]
+    faults = []
+    for parent in ast.walk(tree):
+        for node in ast.iter_child_nodes(parent):
+            if isinstance(node, ast.Name) and node.id in kept and isinstance(node.ctx, ast.Load):
+                read = isinstance(parent, ast.Subscript) and isinstance(parent.ctx, ast.Load) and parent.value is node
+                walked = isinstance(parent, (ast.For, ast.comprehension, ast.Compare))
+                copied = call_name(parent) in ["list", "dict", "len", "sorted", "tuple"]
+                looked_up = isinstance(parent, ast.Attribute) and parent.attr in ["get", "items", "keys", "values"]
+                if not (read or walked or copied or looked_up):
+                    faults.append("L15 use of " + node.id)
     return faults
 
 
 def file_faults(text, own_names):
     """All faults of one file; own_names are the methods and values of the whole package."""
     tree = ast.parse(text)
-    faults = text_faults(text) + top_faults(tree) + place_faults(tree) + local_faults(tree)
+    faults = text_faults(text) + top_faults(tree) + place_faults(tree) + local_faults(tree) + class_uses(tree)
     bound = bound_names(tree)
     for name in bound:
         if name.startswith("_") or not name.isascii():
@@ -235,6 +295,16 @@ class ThePackage(unittest.TestCase):
         methods, values = methods_and_values(self.trees.values())
         self.assertEqual(set(methods) & set(values), set())
 
+    def test_no_method_or_value_is_called_like_one_of_python_s_own(self):
+        methods, values = methods_and_values(self.trees.values())
+        taken = (PYTHONS_NAMES - set(SHARED_NAMES)) & set(methods) - set(OWN_DOUBLE)
+        self.assertEqual(taken, set())
+        self.assertEqual(PYTHONS_NAMES & set(values), set())
+
+    def test_lists_and_dicts_of_a_files_top_are_only_read(self):
+        for name, tree in self.trees.items():
+            self.assertEqual(top_uses(tree), [], name)
+
     def test_names_are_drawn_from_the_file_that_defines_them(self):
         for name, tree in self.trees.items():
             for node in tree.body:
@@ -262,6 +332,8 @@ class TheCheckItself(unittest.TestCase):
             'def least(numbers):\n    """Why."""\n    return min([n for n in numbers if n > 0], default=0)\n',
             "def f(a):\n    return [b for b, c in enumerate(a, start=1) if c in set(a)]\n",
             "def f(a):\n    return sorted(set(a)) + list(a.items()) + list(range(3))\n",
+            "def f(a):\n    return f'{a} and {a!r}' if a is not None else str(a ** 2)\n",
+            "def f(a):\n    return a\n\n\nWAYS = {'f': f, 'g': (1, 2)}\n\n\ndef g(a):\n    return WAYS[a]\n",
         ]:
             with self.subTest(text=text[:60]):
                 self.assertEqual(file_faults(text, []), [])
@@ -282,9 +354,21 @@ class TheCheckItself(unittest.TestCase):
             inside + "return a.items()\n", inside + "b = set(a)\n", inside + "for b in set(a):\n        pass\n",
             inside + "return sorted(set(a), reverse=True)\n", "class A:\n    pass\n\n\ndef f(A):\n    return A\n",
             "from fencegate.paths import within\n\n\ndef f(a):\n    within = a\n    return within\n",
+            inside + "return f'{a.b}'\n", inside + "return f'{a:3}'\n", inside + "return a is 3\n",
+            inside + "return 2 ** a\n", inside + "try:\n        f(a)\n    except Exception:\n        pass\n",
+            inside + "try:\n        f(a)\n    except:\n        pass\n", inside + "raise ValueError\n",
+            "class A:\n    pass\n\n\ndef f():\n    return [A]\n", "x = {1: [2]}\n", "x = [len('a')]\n",
         ]:
             with self.subTest(text=text[:60]):
                 self.assertNotEqual(file_faults(text, []), [])
+
+
+    def test_a_list_of_a_files_top_that_is_handed_on_is_seen(self):
+        start = "WAYS = [1, 2]\n\n\ndef f(a):\n    "
+        for use in ["return WAYS\n", "WAYS.append(a)\n", "f(WAYS)\n", "WAYS[0] = a\n", "b = WAYS\n"]:
+            self.assertNotEqual(top_uses(ast.parse(start + use)), [], use)
+        for use in ["return WAYS[a]\n", "return list(WAYS)\n", "return a in WAYS\n", "return [b for b in WAYS]\n"]:
+            self.assertEqual(top_uses(ast.parse(start + use)), [], use)
 
 
 if __name__ == "__main__":
